@@ -7,6 +7,9 @@ func divisor(a, b []uint32) []uint32 {
 	if compare(a, b) < 0 {
 		a, b = b, a
 	}
+	if len(a) <= 2 {
+		return fromWord(wordDivisor(word(a), word(b)))
+	}
 	a, b = clone(a), clone(b)
 	for len(b) > 2 {
 		if s := foresee(a, b); s.v0 != 0 {
