@@ -2,6 +2,7 @@ package sparse_test
 
 import (
 	"fmt"
+	"math/big"
 	"slices"
 	"testing"
 
@@ -160,6 +161,19 @@ func dense(t *testing.T, m api.Matrix) string {
 	return s
 }
 
+// matrixAt is a matrix at random; a great one is thin, so that products of several of them end soon.
+func (d *dice) matrixAt(rows, width int) api.Matrix {
+	if rows < 100 && width < 100 {
+		return d.matrix(rows, width)
+	}
+	return fill(rows, width, func(r, c int) *big.Rat {
+		if d.next(60) > 0 {
+			return nil
+		}
+		return bigOf(d.number())
+	}).matrix()
+}
+
 // P9.14: sums and products.
 func TestMatrixLaws(t *testing.T) {
 	d := dice(9)
@@ -173,10 +187,13 @@ func TestMatrixLaws(t *testing.T) {
 			t.Fatalf("%s: %s and %s", what, short(dense(t, a)), short(dense(t, b)))
 		}
 	}
-	cancelled := 0
-	for range 400 {
-		n, m, k, l := d.side(), d.side(), d.side(), d.side()
-		a, a2, a3, b, b2, c := d.matrix(n, m), d.matrix(n, m), d.matrix(n, m), d.matrix(m, k), d.matrix(m, k), d.matrix(k, l)
+	cancelled, great := 0, 0
+	for i := range 420 {
+		n, m, k, l := d.great(i), d.great(i), d.great(i), d.great(i)
+		if min(n, m, k, l) >= 120 {
+			great++
+		}
+		a, a2, a3, b, b2, c := d.matrixAt(n, m), d.matrixAt(n, m), d.matrixAt(n, m), d.matrixAt(m, k), d.matrixAt(m, k), d.matrixAt(k, l)
 		same("Plus is commutative", plus(a, a2), plus(a2, a))
 		same("Plus is associative", plus(plus(a, a2), a3), plus(a, plus(a2, a3)))
 		same("Times is associative", times(times(a, b), c), times(a, times(b, c)))
@@ -199,8 +216,8 @@ func TestMatrixLaws(t *testing.T) {
 			}
 		}
 	}
-	if cancelled < 100 {
-		t.Errorf("%d entries that are 0", cancelled)
+	if cancelled < 100 || great < 5 {
+		t.Errorf("%d entries that are 0, %d times great matrices", cancelled, great)
 	}
 }
 
