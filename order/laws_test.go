@@ -44,11 +44,12 @@ func TestNoLesserBack(t *testing.T) {
 	}
 }
 
-// P11.4 (2): all sets of vertices of all graphs of up to five vertices, and of some of up to ten.
+// P11.4 (2): all sets of vertices of all graphs of up to five vertices, and of some of up to ten; (3) and (4) of these.
 func TestEverySet(t *testing.T) {
 	t.Parallel()
 	check := func(s sheet) {
-		m, _ := worth(t, s)
+		m, cores := worth(t, s)
+		wantNumbers(t, fmt.Sprint(s.pattern()), s, m, cores)
 		reached := len(s) == 0
 		for set := 1; set < 1<<len(s); set++ {
 			least := s.leastWithin(set)
@@ -88,13 +89,19 @@ func TestWorth(t *testing.T) {
 				}
 			}
 			wantSets(t, fmt.Sprint(n, ", ", what), s, m, cores)
-			if greatest(cores) != m {
-				t.Errorf("%d, %s: (3): greatest core %d, Degeneracy %d", n, what, greatest(cores), m)
-			}
-			if n*m < s.edges() {
-				t.Errorf("%d, %s: (4): %d edges, Degeneracy %d", n, what, s.edges(), m)
-			}
+			wantNumbers(t, fmt.Sprint(n, ", ", what), s, m, cores)
 		}
+	}
+}
+
+// wantNumbers fails if the greatest core is not m, or m is too low for the edges.
+func wantNumbers(t *testing.T, what string, s sheet, m int, cores []int) {
+	t.Helper()
+	if greatest(cores) != m {
+		t.Errorf("%s: (3): greatest core %d, Degeneracy %d", what, greatest(cores), m)
+	}
+	if len(s)*m < s.edges() {
+		t.Errorf("%s: (4): %d edges, Degeneracy %d", what, s.edges(), m)
 	}
 }
 
