@@ -1,11 +1,6 @@
 package symbolic
 
-import (
-	"slices"
-	"strings"
-
-	"slope/api"
-)
+import "slope/api"
 
 // form is a normal form: a value of one of the types below. None is ever changed,
 // so that many may stand on one.
@@ -47,12 +42,6 @@ func formOf(list []*term, rest api.Rat) form {
 		return monomial{list[0]}
 	}
 	return &compound{list: list, rest: rest}
-}
-
-// sorted is the normal form of terms in any order, no two of like factors, and a constant.
-func sorted(list []*term, rest api.Rat) form {
-	slices.SortFunc(list, func(a, b *term) int { return strings.Compare(a.part, b.part) })
-	return formOf(list, rest)
 }
 
 // isNothing tells whether a normal form is the number 0.

@@ -45,15 +45,27 @@ func small(r api.Rat) int {
 	return int(r.Num[0])
 }
 
-// times is the product of two numbers; by 0 and 1 it is one of them, for the same reason.
+// times is the product of two numbers; by 0, 1 and -1 it is made of lists that stand
+// already, for the same reason.
 func times(a, b api.Rat) (api.Rat, api.Errno) {
 	switch {
 	case isZero(a), isOne(b):
 		return a, api.OK
 	case isZero(b), isOne(a):
 		return b, api.OK
+	case isMinusOne(b):
+		return turned(a), api.OK
 	}
 	return rational.Mul(a, b)
+}
+
+// isMinusOne tells whether a number is -1.
+func isMinusOne(r api.Rat) bool { return r.Neg && isUnit(r.Num) && isUnit(r.Den) }
+
+// turned is a number that is not 0 with the other sign, of the same lists.
+func turned(r api.Rat) api.Rat {
+	r.Neg = !r.Neg
+	return r
 }
 
 // raised is a number to a power that may be.

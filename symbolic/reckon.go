@@ -41,9 +41,17 @@ func reckoned(kind api.ExprKind, a, b form) (form, api.Errno) {
 		return nil, e
 	}
 	if kind == api.ExprAdd || kind == api.ExprSub {
-		return sum([]form{a, b})
+		return add(a, b)
 	}
 	return multiply(a, b)
+}
+
+// add is the sum of two normal forms; the longer one goes first, for that is less work.
+func add(a, b form) (form, api.Errno) {
+	if len(a.terms()) < len(b.terms()) {
+		a, b = b, a
+	}
+	return sum([]form{a, b})
 }
 
 // negative is -1 times a normal form.

@@ -78,12 +78,15 @@ func tooLong(f form) bool {
 }
 
 // most is how many bytes a normal form's text has at most.
-func most(f form) int {
+func most(f form) int { return length(roomOf(f)) }
+
+// roomOf is how much room a normal form's terms and its constant take together.
+func roomOf(f form) int {
 	size := constantRoom(f.constant())
 	for _, t := range f.terms() {
 		size += room(t.c, t.part)
 	}
-	return length(size)
+	return size
 }
 
 // room is how many bytes a term takes in a sum's text at most, with the + that parts it from its neighbour.
